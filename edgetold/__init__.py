@@ -1,0 +1,1 @@
+"""A square of lines that carry a current, told from its edge."""

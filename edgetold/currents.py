@@ -1,7 +1,8 @@
 """What voltages at the edge make of a square: voltages inside, and what flows in at the edge."""
 
+from edgetold.equations import solve, zeros
 from edgetold.grid import count_edge, count_inside, line_ends
-from edgetold.ratios import ONE, ZERO, divided, minus, plus, times
+from edgetold.ratios import ONE, ZERO, minus, plus, times
 
 
 def add_line_from(equations, edge, here, there, carried):
@@ -18,10 +19,6 @@ def add_line_from(equations, edge, here, there, carried):
         equation[there - first] = minus(equation[there - first], carried)
 
 
-def zeros(count):
-    return [ZERO for k in range(count)]
-
-
 # An equation says of one place inside that nothing flows from it, all together: a factor
 # for each voltage inside, then what these come to, which is what the edge brings in.
 def balance_equations(square, edge):
@@ -34,23 +31,8 @@ def balance_equations(square, edge):
     return equations
 
 
-def without(equation, pivot, k):
-    factor = equation[k]
-    return [minus(x, times(factor, y)) for x, y in zip(equation, pivot)]
-
-
-# What is divided by is never 0, so no order is sought: from every place inside lines that carry
-# something lead to the edge, and so what is left of the equations is positive definite each time.
-def solve(equations):
-    count = len(equations)
-    left = equations
-    for k in range(count):
-        factor = left[k][k]
-        pivot = [divided(x, factor) for x in left[k]]
-        left = [pivot if i == k else without(left[i], pivot, k) for i in range(count)]
-    return [equation[count] for equation in left]
-
-
+# These can be solved in any order: from every place inside lines that carry something lead to
+# the edge, so the equations are positive definite, and so are those of some places alone.
 def voltages_inside(square, edge):
     return solve(balance_equations(square, edge))
 
@@ -73,3 +55,7 @@ def seen_from(square, i):
     edge = [ONE if j == i else ZERO for j in range(count_edge(square.wide))]
     flows = flows_in(square, edge)
     return [ZERO if j == i else minus(ZERO, flows[j]) for j in range(len(flows))]
+
+
+def table_of(square):
+    return [seen_from(square, i) for i in range(count_edge(square.wide))]

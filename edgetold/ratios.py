@@ -35,4 +35,6 @@ def times(x, y):
 
 
 def divided(x, y):
+    if y[0] == 0:
+        raise ZeroDivisionError("a fraction is divided by 0")
     return ratio(x[0] * y[1], x[1] * y[0])

@@ -23,6 +23,13 @@ LINES = {
     ],
 }
 
+# Where each place comes to lie when the square is turned a quarter, likewise by hand.
+TURNED = {
+    1: [1, 2, 3, 0, 4],
+    2: [2, 3, 5, 4, 6, 7, 1, 0, 9, 11, 8, 10],
+    3: [3, 4, 5, 8, 7, 6, 9, 10, 11, 2, 1, 0, 14, 17, 20, 13, 16, 19, 12, 15, 18],
+}
+
 LEAST = -2147483648
 MOST = 2147483647
 
@@ -100,8 +107,47 @@ def last(*calls):
     return ask(*calls)[-1]
 
 
+def asked_behind(calls, asked):
+    """The answers to the calls that are asked behind others."""
+    return ask(*calls, *asked)[len(calls):]
+
+
 def puts(carried):
     return [put(k, a, b) for k, (a, b) in enumerate(carried)]
+
+
+def filled(n, carried):
+    return [begin(n)] + puts(carried)
+
+
+def lines_asked(n):
+    return [line(k) for k in range(len(LINES[n]))]
+
+
+def lines_told(n, carried):
+    """What the calls of line answer."""
+    told_lines = []
+    for (one, other), (a, b) in zip(LINES[n], carried):
+        least = Fraction(a, b)
+        told_lines.append([0, one, other, least.numerator, least.denominator])
+    return told_lines
+
+
+def all_told(carried):
+    """What found and told answer."""
+    answer = [len(carried)]
+    for a, b in carried:
+        least = Fraction(a, b)
+        answer.extend([least.numerator, least.denominator])
+    return answer
+
+
+def turned(n, carried):
+    """What each line carries when the square is turned a quarter."""
+    by_places = {}
+    for (one, other), (a, b) in zip(LINES[n], carried):
+        by_places[frozenset((TURNED[n][one], TURNED[n][other]))] = (a, b)
+    return [by_places[frozenset(places)] for places in LINES[n]]
 
 
 def fractions_of(answer):

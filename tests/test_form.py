@@ -115,6 +115,27 @@ class Form(unittest.TestCase):
             self.assertEqual((node.module.split(".")[0], node.level), ("edgetold", 0), place)
             self.assertTrue(all(part.name != "*" and part.asname is None for part in node.names), place)
 
+    def test_no_local_is_called_like_an_import_or_a_class(self):
+        for path, text in sources():
+            tree = ast.parse(text)
+            taken = {part.name for node in tree.body if isinstance(node, ast.ImportFrom) for part in node.names}
+            taken |= {node.name for node in tree.body if isinstance(node, ast.ClassDef)}
+            for node in ast.walk(tree):
+                if isinstance(node, ast.arg):
+                    self.assertNotIn(node.arg, taken, path.name)
+                if isinstance(node, ast.Name) and isinstance(node.ctx, ast.Store):
+                    self.assertNotIn(node.id, taken, path.name)
+
+    def test_no_two_files_draw_from_one_another(self):
+        drawn = {path.stem: set() for path, text in sources()}
+        for place, node in nodes(ast.ImportFrom):
+            drawn[place[:-len(".py")]].add(node.module.split(".")[1])
+        while drawn:
+            free = [name for name in drawn if not drawn[name] & set(drawn)]
+            self.assertNotEqual(free, [], drawn)
+            for name in free:
+                del drawn[name]
+
     def test_functions_and_classes(self):
         for place, node in nodes(ast.FunctionDef):
             given = node.args

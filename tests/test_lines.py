@@ -1,23 +1,11 @@
 """Point 1: begin, set, line."""
 
 import unittest
-from fractions import Fraction
 
 from asking import (
-    LEAST, LINES, MOST, all_one, ask, begin, flow, last, line, put, puts, row, seen, squares, very_different,
+    LEAST, LINES, MOST, TURNED, all_one, ask, asked_behind, begin, filled, flow, last, line, lines_asked, lines_told,
+    put, puts, row, seen, squares, turn, turned, very_different,
 )
-
-
-def lines_asked(n):
-    return [line(k) for k in range(len(LINES[n]))]
-
-
-def lines_told(n, carried):
-    told = []
-    for (one, other), (a, b) in zip(LINES[n], carried):
-        least = Fraction(a, b)
-        told.append([0, one, other, least.numerator, least.denominator])
-    return told
 
 
 class Begin(unittest.TestCase):
@@ -41,10 +29,8 @@ class Begin(unittest.TestCase):
 
     def test_begin_again_makes_every_line_1(self):
         for n in (1, 2, 3):
-            filled = puts(very_different(3))
-            given = ask(begin(3), *filled, begin(n), *lines_asked(n))
-            self.assertEqual(given[1 + len(filled)], [len(LINES[n])])
-            self.assertEqual(given[2 + len(filled):], lines_told(n, all_one(n)))
+            given = asked_behind(filled(3, very_different(3)), [begin(n)] + lines_asked(n))
+            self.assertEqual(given, [[len(LINES[n])]] + lines_told(n, all_one(n)))
 
     def test_begin_again_wider_and_narrower(self):
         given = ask(begin(1), line(3), line(4), begin(3), line(23), line(24), begin(1), line(3), line(4), row(4))
@@ -104,6 +90,57 @@ class Line(unittest.TestCase):
     def test_asking_changes_nothing(self):
         given = ask(begin(2), put(1, 2, 9), line(1), seen(0, 1), row(3), flow([1] * 8), line(1))
         self.assertEqual(given[2], given[6])
+
+
+class Turn(unittest.TestCase):
+    def test_each_line_joins_the_places_its_own_were_turned_to(self):
+        for n, carried in squares():
+            given = asked_behind(filled(n, carried), [turn()] + lines_asked(n))
+            self.assertEqual(given, [[0]] + lines_told(n, turned(n, carried)))
+
+    def test_one_wide_by_hand(self):
+        # West 1 by 2, east 3, north 2, south 5: turned, these are north, south, east, west.
+        given = ask(*filled(1, [(1, 2), (3, 1), (2, 1), (5, 1)]), turn(), *lines_asked(1))
+        self.assertEqual(given[5:], [[0], [0, 3, 4, 5, 1], [0, 4, 1, 2, 1], [0, 0, 4, 1, 2], [0, 4, 2, 3, 1]])
+
+    def test_each_side_goes_to_the_next(self):
+        # North and south keep the order in which they are counted; east and west are counted the other way then.
+        for n in (1, 2, 3):
+            for place in range(4 * n):
+                side, step = divmod(place, n)
+                k = [at for at, ends in enumerate(LINES[n]) if place in ends][0]
+                given = asked_behind([begin(n), put(k, 7, 9)], [turn()] + lines_asked(n))
+                places = [min(answer[1:3]) for answer in given[1:] if answer[3:] == [7, 9]]
+                self.assertEqual(places, [(side + 1) % 4 * n + (step if side in (0, 2) else n - 1 - step)])
+
+    def test_turned_four_times_it_is_as_it_was(self):
+        for n, carried in squares():
+            before = filled(n, carried)
+            self.assertEqual(asked_behind(before + [turn()] * 4, lines_asked(n)), lines_told(n, carried))
+            for times in (1, 2, 3):
+                if carried[0] != carried[1]:
+                    self.assertNotEqual(asked_behind(before + [turn()] * times, lines_asked(n)), lines_told(n, carried))
+
+    def test_what_was_seen_is_seen_between_the_turned_places(self):
+        for n, carried in squares():
+            for i in range(4 * n):
+                others = [j for j in range(4 * n) if j != i]
+                before = asked_behind(filled(n, carried), [seen(i, j) for j in others])
+                turned_to = [seen(TURNED[n][i], TURNED[n][j]) for j in others]
+                self.assertEqual(asked_behind(filled(n, carried) + [turn()], turned_to), before)
+
+    def test_set_behind_a_turn_sets_the_line_of_that_number(self):
+        for n in (1, 2, 3):
+            carried = turned(n, very_different(n))
+            carried[1] = (11, 13)
+            given = asked_behind(filled(n, very_different(n)) + [turn(), put(1, 11, 13)], lines_asked(n))
+            self.assertEqual(given, lines_told(n, carried))
+            given = asked_behind(filled(n, very_different(n)) + [turn(), put(1, 11, 13), turn()], lines_asked(n))
+            self.assertEqual(given, lines_told(n, turned(n, carried)))
+
+    def test_begin_behind_a_turn(self):
+        given = asked_behind(filled(2, very_different(2)) + [turn(), begin(3), turn()], lines_asked(3))
+        self.assertEqual(given, lines_told(3, all_one(3)))
 
 
 if __name__ == "__main__":

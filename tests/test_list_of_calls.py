@@ -6,7 +6,7 @@ from asking import (
     LEAST, MOST, ask, begin, changed, flow, found, inside, joined, keep, line, mixed, put, puts, row, seen, told,
     turn, very_different, wake,
 )
-from edgetold.squares import CallNotWritten, answers
+from edgetold.squares import answers
 
 
 class Unchangeable(list):
@@ -39,6 +39,10 @@ def some_lists():
         joined([begin(0), line(0)]),
         joined([begin(3)] + puts(very_different(3)) + [row(i) for i in range(12)] + [flow([5] * 12)]),
         joined([line(0), begin(2)] + puts(mixed(2)) + [begin(5), inside([1, 2, 3, 4, 5, 6, 7, 8]), seen(3, 3)]),
+        joined([begin(3)] + puts(very_different(3)) + [wake(2, 0), wake(1, 1), found(), keep(), turn(), changed()]),
+        joined([begin(1), changed(), keep()] + puts(mixed(1)) + [changed(), begin(2), changed(), turn(), wake(3, 0)]),
+        joined([begin(2), told(1, 24, [24, 4, 4, 6, 6, 1]), told(1, 24, [24, 4, 4, 6, 6, 2]), told(3, 1, [0] * 66)]),
+        joined([begin(1)] + every_other_call() + wrong_calls()),
     ]
 
 
@@ -57,18 +61,15 @@ class BeforeBegin(unittest.TestCase):
             self.assertEqual(ask(begin(n), *calls, begin(n)), [[-22]] + [[-11]] * len(calls) + [[-22]])
 
     def test_11_comes_ahead_of_every_other_refusal(self):
-        given = ask(put(-1, 0, 0), seen(-1, -1), line(-1), row(-1), flow([]), inside([]), begin(1))
-        self.assertEqual(given, [[-11]] * 6 + [[4]])
+        given = ask(
+            put(-1, 0, 0), seen(-1, -1), line(-1), row(-1), flow([]), inside([]), wake(-1, -1), told(0, 0, []),
+            told(1, 1, [0] * 6), changed(), begin(1),
+        )
+        self.assertEqual(given, [[-11]] * 10 + [[4]])
 
     def test_what_was_refused_is_not_done_later(self):
         self.assertEqual(ask(put(0, 3, 2), begin(1), line(0)), [[-11], [4], [0, 3, 4, 1, 1]])
-
-
-class CallsNotWritten(unittest.TestCase):
-    def test_behind_a_begin_they_are_not_answered_at_all(self):
-        for call in (wake(0, 0), found(), told(1, 4, [1] * 6), keep(), changed(), turn()):
-            with self.assertRaises(CallNotWritten):
-                answers(begin(1) + call)
+        self.assertEqual(ask(keep(), begin(1), changed()), [[-11], [4], [-6]])
 
 
 class HowAnswersLie(unittest.TestCase):
@@ -77,6 +78,31 @@ class HowAnswersLie(unittest.TestCase):
         self.assertEqual(answers(calls), [
             1, 4, 3, 0, 1, 1, 5, 0, 3, 4, 1, 2, 1, -22, 1, -22, 3, 1, 0, 1, 9, 4, 0, 1, 2, 7, 2, 7, 1, 7,
         ])
+
+    def test_each_of_the_later_answers_too(self):
+        calls = joined([
+            begin(1), put(0, 2, 4), wake(0, 0), found(), told(1, 4, [1] * 6), keep(), changed(), turn(), changed(),
+        ])
+        self.assertEqual(answers(calls), [
+            1, 4, 3, 0, 1, 1, 9, 4, 1, 1, 0, 1, 0, 1, -2, 1, 9, 4, 1, 2, 1, 1, 1, 1, 1, 1, 9, 4, 1, 1, 1, 1, 1, 1, 1, 1,
+            1, 1, 1, 0, 1, 0, 7, 2, 0, 1, 2, 2, 1, 1,
+        ])
+
+    def test_the_call_behind_a_table_is_answered(self):
+        given = ask(
+            begin(1), told(1, 1, []), told(1, 1, [7] * 70), told(3, 0, [0] * 66), told(2, 1, [0] * 28), line(1),
+            told(1, 4, [1] * 6), turn(),
+        )
+        self.assertEqual(given, [
+            [4], [-22], [-22], [-22], [-33], [0, 4, 1, 1, 1], [4] + [1, 1] * 4, [0],
+        ])
+
+    def test_every_call_is_answered(self):
+        calls = every_other_call() + wrong_calls()
+        given = ask(begin(1), *calls)
+        self.assertEqual(len(given), 1 + len(calls))
+        self.assertTrue(all(answer[0] >= 0 for answer in given[:1 + len(every_other_call())]))
+        self.assertTrue(all(answer[0] in (-2, -22) for answer in given[1 + len(every_other_call()):]))
 
     def test_whole_numbers_in_a_list(self):
         for calls in some_lists():
@@ -106,6 +132,10 @@ class NothingChangedNothingKept(unittest.TestCase):
         answers(begin(3) + put(0, 5, 6))
         self.assertEqual(answers(line(0)), [1, -11])
         self.assertEqual(answers(begin(3) + line(0)), [1, 24, 5, 0, 9, 12, 1, 1])
+
+    def test_a_table_that_was_kept_is_forgotten(self):
+        answers(begin(2) + keep())
+        self.assertEqual(answers(begin(2) + changed()), [1, 12, 1, -6])
 
     def test_an_answer_changed_outside_changes_no_other(self):
         given = answers(begin(1) + row(0))

@@ -31,6 +31,11 @@ class Ratios(unittest.TestCase):
                 if y != 0:
                     self.assertEqual(divided(pair(x), pair(y)), pair(x / y))
 
+    def test_nothing_is_divided_by_0(self):
+        for x in SOME:
+            with self.assertRaises(ZeroDivisionError):
+                divided(pair(x), ZERO)
+
 
 if __name__ == "__main__":
     unittest.main()
